@@ -1,0 +1,1 @@
+"""Braids: the same or not, and the one form that each has."""
