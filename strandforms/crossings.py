@@ -7,6 +7,9 @@ MOST_LETTERS = 4096
 DONE = 0
 OUT_OF_RANGE = -2
 
+# Added to a count that may be below 0, so that no answer looks like a refusal.
+COUNT_OF_NOTHING = 8192
+
 
 def is_letter(n, number):
     return 1 <= abs(number) <= n - 1
@@ -21,6 +24,10 @@ def is_word(n, w):
         if not is_letter(n, number):
             return False
     return True
+
+
+def sign(letter):
+    return 1 if letter > 0 else -1
 
 
 def cross(row, letter):
@@ -39,3 +46,12 @@ def places(n, w):
     for letter in w:
         cross(row, letter)
     return [DONE] + row
+
+
+def sum_of(n, w):
+    if not is_word(n, w):
+        return [OUT_OF_RANGE]
+    count = COUNT_OF_NOTHING
+    for letter in w:
+        count += sign(letter)
+    return [count]
