@@ -30,6 +30,10 @@ def sign(letter):
     return 1 if letter > 0 else -1
 
 
+def is_strand(n, number):
+    return 0 <= number <= n - 1
+
+
 def cross(row, letter):
     # The sign says which strand passes before the other; both signs move the strands alike.
     right = abs(letter)
@@ -54,4 +58,19 @@ def sum_of(n, w):
     count = COUNT_OF_NOTHING
     for letter in w:
         count += sign(letter)
+    return [count]
+
+
+def between(n, i, j, w):
+    if not is_word(n, w):
+        return [OUT_OF_RANGE]
+    if not is_strand(n, i) or not is_strand(n, j) or i == j:
+        return [OUT_OF_RANGE]
+    count = COUNT_OF_NOTHING
+    row = list(range(n))
+    for letter in w:
+        crossing = row[abs(letter) - 1:abs(letter) + 1]
+        if i in crossing and j in crossing:
+            count += sign(letter)
+        cross(row, letter)
     return [count]
