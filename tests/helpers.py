@@ -3,6 +3,7 @@
 import contextlib
 import copy
 import io
+import signal
 
 from strandforms import crossings
 
@@ -16,20 +17,151 @@ def letters_of(n):
     return list(range(-(n - 1), 0)) + list(range(1, n))
 
 
+class Choices:
+    """Choices that look mixed and are the same ones at each run of the tests."""
+
+    def __init__(self, seed):
+        self.state = seed
+
+    def below(self, bound):
+        self.state = (self.state * 1103515245 + 12345) % 2147483648
+        return (self.state >> 8) % bound
+
+    def one_of(self, things):
+        return things[self.below(len(things))]
+
+
 def mixed_word(n, length, seed):
-    """A word of both signs, the same one at each run of the tests."""
+    """A word of both signs."""
+    choices = Choices(seed)
     letters = letters_of(n)
-    word = []
-    state = seed
-    for _ in range(length):
-        state = (state * 1103515245 + 12345) % 2147483648
-        word.append(letters[(state >> 8) % len(letters)])
-    return word
+    return [choices.one_of(letters) for _ in range(length)]
 
 
 def opposite(word):
     """The word backwards, each sign changed: behind the word it undoes it."""
     return [-letter for letter in reversed(word)]
+
+
+def put_in(n, word, choices):
+    letter = choices.one_of(letters_of(n))
+    at = choices.below(len(word) + 1)
+    return word[:at] + [letter, -letter] + word[at:]
+
+
+def take_out(n, word, choices):
+    fits = [at for at in range(len(word) - 1) if word[at] == -word[at + 1]]
+    if not fits:
+        return word
+    at = choices.one_of(fits)
+    return word[:at] + word[at + 2:]
+
+
+def exchange(n, word, choices):
+    fits = [at for at in range(len(word) - 1) if abs(abs(word[at]) - abs(word[at + 1])) >= 2]
+    if not fits:
+        return word
+    at = choices.one_of(fits)
+    return word[:at] + [word[at + 1], word[at]] + word[at + 2:]
+
+
+def slide(n, word, choices):
+    """i, i + 1, i made i + 1, i, i + 1, or the other way round; where none is there, one is put in first."""
+    if n == 2:
+        return word
+    fits = [at for at in range(len(word) - 2)
+            if word[at] > 0 and word[at] == word[at + 2] and abs(word[at] - word[at + 1]) == 1 and word[at + 1] > 0]
+    if not fits:
+        i = 1 + choices.below(n - 2)
+        bump = choices.one_of([[i, i + 1, i], [i + 1, i, i + 1]])
+        fits = [choices.below(len(word) + 1)]
+        word = word[:fits[0]] + bump + opposite(bump) + word[fits[0]:]
+    at = choices.one_of(fits)
+    return word[:at] + [word[at + 1], word[at], word[at + 1]] + word[at + 3:]
+
+
+WAYS = (put_in, take_out, exchange, slide)
+
+
+def after_steps(n, word, many, seed):
+    """Another word of the same braid: after so many steps, one way or another."""
+    choices = Choices(seed)
+    for _ in range(many):
+        word = choices.one_of(WAYS)(n, word, choices)
+    return word
+
+
+def lace(n, word):
+    """Numbers that two words share just where they mean the same braid (Dynnikov's coordinates of a lace).
+
+    They know nothing of forms, so they are held against what is told by forms.
+    """
+    a = [0] * n
+    b = [1] * n
+    for letter in word:
+        left = abs(letter) - 1
+        right = left + 1
+        al, bl, ar, br = a[left], b[left], a[right], b[right]
+        if letter > 0:
+            c = al - min(bl, 0) - ar + max(br, 0)
+            a[left] = al + max(bl, 0) + max(max(br, 0) - c, 0)
+            b[left] = br - max(c, 0)
+            a[right] = ar + min(br, 0) + min(min(bl, 0) + c, 0)
+            b[right] = bl + max(c, 0)
+        else:
+            c = al + min(bl, 0) - ar - max(br, 0)
+            a[left] = al - max(bl, 0) - max(max(br, 0) + c, 0)
+            b[left] = br + min(c, 0)
+            a[right] = ar - min(br, 0) - min(min(bl, 0) - c, 0)
+            b[right] = bl - min(c, 0)
+    return a + b
+
+
+def spelled_row(row):
+    """A word of letters above 0, as many as the row has pairs, by which the strands come to the row's places."""
+    row = list(row)
+    word = []
+    undone = False
+    while not undone:
+        undone = True
+        for i in range(len(row) - 1, 0, -1):
+            if row[i - 1] > row[i]:
+                row[i - 1], row[i] = row[i], row[i - 1]
+                word.append(i)
+                undone = False
+    return word[::-1]
+
+
+def the_turn(n):
+    return list(range(n - 1, -1, -1))
+
+
+def spelled(n, turns, rows):
+    """A word for so many turns and then these rows' braids."""
+    turn = spelled_row(the_turn(n))
+    word = (turn if turns >= 0 else opposite(turn)) * abs(turns)
+    for row in rows:
+        word.extend(spelled_row(row))
+    return word
+
+
+def cut(n, numbers):
+    """The rows that stand one behind another in these numbers."""
+    return [numbers[at:at + n] for at in range(0, len(numbers), n)]
+
+
+@contextlib.contextmanager
+def within(seconds):
+    """Fails what takes longer than a test can wait for, instead of waiting."""
+    def too_long(number, frame):
+        raise AssertionError(f"not done within {seconds} seconds")
+    before = signal.signal(signal.SIGALRM, too_long)
+    signal.alarm(seconds)
+    try:
+        yield
+    finally:
+        signal.alarm(0)
+        signal.signal(signal.SIGALRM, before)
 
 
 def untouchable(name):

@@ -109,6 +109,19 @@ class Statements(unittest.TestCase):
             self.assertEqual(len(node.targets), 1, f"{path}:{node.lineno}")
             self.assertNotIsInstance(node.targets[0], (ast.Tuple, ast.List), f"{path}:{node.lineno}")
 
+    def test_what_stands_by_itself_is_a_call(self):
+        for path, tree in parsed():
+            for node in ast.walk(tree):
+                if isinstance(node, ast.Expr) and node is not tree.body[0]:
+                    self.assertIsInstance(node.value, ast.Call, f"{path}:{node.lineno}")
+
+    def test_a_class_holds_methods_alone(self):
+        for path, node in nodes(ast.ClassDef):
+            self.assertEqual(node.decorator_list, [], path)
+            self.assertLessEqual(len(node.bases), 1, path)
+            for statement in node.body:
+                self.assertIsInstance(statement, ast.FunctionDef, f"{path}:{statement.lineno}")
+
     def test_loops_have_no_else(self):
         for path, node in nodes((ast.For, ast.While)):
             self.assertEqual(node.orelse, [], f"{path}:{node.lineno}")
