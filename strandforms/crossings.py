@@ -192,3 +192,12 @@ def form(n, most, w):
     for row in braid.form_rows():
         answer.extend(row)
     return answer
+
+
+def same(n, w, v):
+    if not is_word(n, w) or not is_word(n, v):
+        return [OUT_OF_RANGE]
+    one = braid_of(n, w)
+    other = braid_of(n, v)
+    # Where the turns are as many, they stand behind the rows in both alike: the rows need not be turned over.
+    return [1 if one.turns == other.turns and one.rows == other.rows else 0]
