@@ -3,6 +3,8 @@
 FEWEST_STRANDS = 2
 MOST_STRANDS = 16
 MOST_LETTERS = 4096
+MOST_ROWS = 4096
+MOST_TURNS = 4096
 
 DONE = 0
 OUT_OF_RANGE = -2
@@ -16,14 +18,16 @@ COUNT_OF_NOTHING = 8192
 MOST_KNOWN = 4096
 
 
+def can_hang(n):
+    return FEWEST_STRANDS <= n <= MOST_STRANDS
+
+
 def is_letter(n, number):
     return 1 <= abs(number) <= n - 1
 
 
 def is_word(n, w):
-    if not FEWEST_STRANDS <= n <= MOST_STRANDS:
-        return False
-    if len(w) > MOST_LETTERS:
+    if not can_hang(n) or len(w) > MOST_LETTERS:
         return False
     for number in w:
         if not is_letter(n, number):
@@ -37,6 +41,18 @@ def sign(letter):
 
 def is_strand(n, number):
     return 0 <= number <= n - 1
+
+
+def none_of(n):
+    return list(range(n))
+
+
+def turn_of(n):
+    return list(range(n - 1, -1, -1))
+
+
+def is_row(n, numbers):
+    return sorted(numbers) == none_of(n)
 
 
 def cross(row, letter):
@@ -87,8 +103,8 @@ def settled(first, second):
 # stand last, so that a new turn passes only the rows behind it, which were just looked at.
 class Braid:
     def __init__(self, n):
-        self.none = tuple(range(n))
-        self.turn = tuple(range(n - 1, -1, -1))
+        self.none = tuple(none_of(n))
+        self.turn = tuple(turn_of(n))
         self.rows = []
         self.turns = 0
         self.known = {}
@@ -149,10 +165,48 @@ def braid_of(n, w):
     return braid
 
 
+def first_word(row):
+    # The strands' places are put in order from the left on. So each letter is the smallest with which what is
+    # still to come begins, and none is more than a shortest word needs.
+    where = strand_places(row)
+    word = []
+    for strand in range(1, len(row)):
+        letter = strand
+        while letter > 0 and where[letter - 1] > where[letter]:
+            cross(where, letter)
+            word.append(letter)
+            letter -= 1
+    return word
+
+
+def undone(word):
+    return [-letter for letter in reversed(word)]
+
+
+def turns_word(n, turns):
+    word = first_word(turn_of(n))
+    if turns < 0:
+        word = undone(word)
+    return word * abs(turns)
+
+
+def cut_rows(k, n, numbers):
+    return [numbers[at * n:at * n + n] for at in range(k)]
+
+
+def are_rows(k, n, numbers):
+    if not can_hang(n) or not 0 <= k <= MOST_ROWS:
+        return False
+    for row in cut_rows(k, n, numbers):
+        if not is_row(n, row):
+            return False
+    return True
+
+
 def places(n, w):
     if not is_word(n, w):
         return [OUT_OF_RANGE]
-    row = list(range(n))
+    row = none_of(n)
     for letter in w:
         cross(row, letter)
     return [DONE] + row
@@ -173,7 +227,7 @@ def between(n, i, j, w):
     if not is_strand(n, i) or not is_strand(n, j) or i == j:
         return [OUT_OF_RANGE]
     count = COUNT_OF_NOTHING
-    row = list(range(n))
+    row = none_of(n)
     for letter in w:
         crossing = row[abs(letter) - 1:abs(letter) + 1]
         if i in crossing and j in crossing:
@@ -201,3 +255,14 @@ def same(n, w, v):
     other = braid_of(n, v)
     # Where the turns are as many, they stand behind the rows in both alike: the rows need not be turned over.
     return [1 if one.turns == other.turns and one.rows == other.rows else 0]
+
+
+def write(turns, k, n, most, rows):
+    if not are_rows(k, n, rows) or abs(turns) > MOST_TURNS or most < 0:
+        return [OUT_OF_RANGE]
+    word = turns_word(n, turns)
+    for row in cut_rows(k, n, rows):
+        word.extend(first_word(row))
+    if len(word) > most:
+        return [TOO_MANY]
+    return [len(word)] + word
